@@ -1,0 +1,1 @@
+"""Growthkinds: how products of a few tables grow, in any order."""

@@ -1,0 +1,81 @@
+"""Tables, wrong values of many kinds, and a check that several tests share."""
+
+import unittest
+from unittest import mock
+
+from growthkinds.families import Family
+
+SIDE = ((1, 3), (0, 1))
+UP = ((0, 1), (0, 0))
+DOWN = ((0, 0), (2, 0))
+PLAIN = ((1, 2), (3, 4))
+TURN = ((0, 1), (5, 0))
+ROUND = ((0, 1, 0), (0, 0, 1), (1, 0, 0))
+FOUR = ((9, 9, 9, 9),) * 4
+FIVE = ((1, 1, 1, 1, 1),) * 5
+
+
+class Odd:
+    """An object that equals everything, and of which nothing else can be asked."""
+
+    def __eq__(self, other):
+        return True
+
+    def __len__(self):
+        raise RuntimeError("no length")
+
+    def __iter__(self):
+        raise RuntimeError("no items")
+
+
+def nested(deep):
+    """Make a tuple that is nested so deep."""
+    thing = ()
+    for _ in range(deep):
+        thing = (thing,)
+    return thing
+
+
+def strange():
+    """Make values that are neither integers nor tuples nor lists."""
+    return [
+        None, True, False, "", "0", "1", "ab", "12", b"", b"0", {}, {0: 0}, {0, 1}, frozenset([0]), range(1),
+        range(2), object(), int, len, tuple, Odd(), mock.ANY, ValueError("0"), Family([SIDE]), iter([0]),
+        (entry for entry in (0, 1)),
+    ]
+
+
+def no_integers():
+    """Make values of many kinds, none of which is an integer."""
+    return strange() + [(), (0,), (1, 0), SIDE, nested(50), [], [0], [[0]]]
+
+
+def no_numbers(limit):
+    """Make values of many kinds, none of which is an integer from 0 to limit - 1."""
+    return [-1, limit, limit + 1, -limit, 10 ** 999, -(10 ** 999)] + no_integers()
+
+
+def no_tables():
+    """Make values of many kinds, none of which is a table, whatever number of places is wanted."""
+    many = strange() + [0, 1, (), (0,), (1, 0), nested(50), [], [0], [(1,)], [(1, 2), (3, 4)], [[1, 2], [3, 4]]]
+    for entry in no_numbers(10):
+        many += [((entry,),), ((0, 1), (entry, 0)), ((1, 2, 3), (4, 5, 6), (7, 8, entry))]
+    # Rows of another length than there are rows.
+    many += [((),), ((1, 2),), ((1,), (2,)), ((1, 2), (3,)), ((1,), (2, 3)), ((1, 2), (3, 4, 5)), ((1, 2, 3), (4, 5, 6))]
+    # Rows that are no tuples, and things that could pass for tables.
+    many += [((1, 2), [3, 4]), ([1, 2], (3, 4)), ([1],), ((1, 2), "34"), ("1",), (b"1",), ("12", "34"), ((1, 2), None)]
+    many += [((1, 2), 3), (1,), (1, 2), ({0: 1},), ({1},), (range(1),), (None,), (Odd(),), (mock.ANY,)]
+    many += [{(1,): 1}, {(1,)}, frozenset([(1,)]), iter([(1,)]), (SIDE,), (SIDE, SIDE)]
+    # More than four places.
+    return many + [FIVE, ((1,) * 6,) * 6, ((0,) * 30,) * 30]
+
+
+class RefusalCase(unittest.TestCase):
+    """A test case that looks closely at what a call refuses."""
+
+    def refused(self, error, field, value, call, *args, **named):
+        """Check that a call raises just this error, with this very value in its field."""
+        with self.assertRaises(error) as caught:
+            call(*args, **named)
+        self.assertIs(type(caught.exception), error)
+        self.assertIs(getattr(caught.exception, field), value)

@@ -1,0 +1,75 @@
+"""Tests that the interface exists as written: names, arguments, and the files in which they are defined."""
+
+import ast
+import importlib
+import inspect
+import pathlib
+import unittest
+
+PACKAGE = pathlib.Path(__file__).resolve().parent.parent / "growthkinds"
+
+# What is listed under each file: a function or class, and what it is called with.
+LISTED = {
+    "errors": {
+        "BadTables": ["place"],
+        "BadWord": ["value"],
+        "BadNumber": ["value"],
+        "BadKind": ["value"],
+        "BadPairs": ["value"],
+        "BadPaper": ["place"],
+        "BadText": ["line"],
+        "Grows": ["paper"],
+        "TooMany": ["most"],
+    },
+    "families": {"Family": ["tables"]},
+    "products": {"is_word": ["family", "thing"], "product": ["family", "word"], "size": ["family", "word"]},
+}
+METHODS = {
+    ("families", "Family"): {
+        "__len__": [],
+        "__eq__": ["other"],
+        "with_table": ["table"],
+        "without_table": ["number"],
+        "changed": ["number", "row", "place", "entry"],
+    },
+}
+
+
+def defined(name):
+    """Find the names of the functions and classes that a file defines."""
+    rows = ast.parse((PACKAGE / f"{name}.py").read_text()).body
+    return [row.name for row in rows if isinstance(row, (ast.FunctionDef, ast.ClassDef))]
+
+
+class InterfaceTest(unittest.TestCase):
+
+    def test_names_and_arguments(self):
+        for file, listed in LISTED.items():
+            module = importlib.import_module(f"growthkinds.{file}")
+            for name, wanted in listed.items():
+                with self.subTest(file=file, name=name):
+                    self.assertEqual(list(inspect.signature(getattr(module, name)).parameters), wanted)
+
+    def test_arguments_have_no_default_values(self):
+        for file, listed in LISTED.items():
+            module = importlib.import_module(f"growthkinds.{file}")
+            for name in listed:
+                for parameter in inspect.signature(getattr(module, name)).parameters.values():
+                    with self.subTest(file=file, name=name, parameter=parameter.name):
+                        self.assertIs(parameter.default, inspect.Parameter.empty)
+                        self.assertIs(parameter.kind, inspect.Parameter.POSITIONAL_OR_KEYWORD)
+
+    def test_each_is_defined_in_its_file(self):
+        for file, listed in LISTED.items():
+            for name in listed:
+                with self.subTest(file=file, name=name):
+                    self.assertIn(name, defined(file))
+        self.assertIn("GrowthError", defined("errors"))
+
+    def test_methods_stand_in_the_class_itself(self):
+        for (file, name), methods in METHODS.items():
+            module = importlib.import_module(f"growthkinds.{file}")
+            for method, wanted in methods.items():
+                with self.subTest(name=name, method=method):
+                    function = vars(getattr(module, name))[method]
+                    self.assertEqual(list(inspect.signature(function).parameters)[1:], wanted)
