@@ -7,10 +7,15 @@ MOST_PLACES = 4
 MOST_ENTRY = 9
 
 
+def is_integer(thing):
+    """Tell whether any value is an integer."""
+    # True and False are ints to Python, but no integers here.
+    return isinstance(thing, int) and not isinstance(thing, bool)
+
+
 def is_below(thing, limit):
     """Tell whether any value is an integer from 0 to limit - 1."""
-    # True and False are ints to Python, but no integers here.
-    return isinstance(thing, int) and not isinstance(thing, bool) and 0 <= thing < limit
+    return is_integer(thing) and 0 <= thing < limit
 
 
 def is_row(thing, many):

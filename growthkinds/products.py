@@ -39,6 +39,11 @@ def product(family, word):
     return result
 
 
+def total(table):
+    """Add up all entries of a table."""
+    return sum([sum(row) for row in table])
+
+
 def size(family, word):
     """Add up all entries of the product of a word."""
-    return sum([sum(row) for row in product(family, word)])
+    return total(product(family, word))

@@ -23,6 +23,20 @@ LISTED = {
     },
     "families": {"Family": ["tables"]},
     "products": {"is_word": ["family", "thing"], "product": ["family", "word"], "size": ["family", "word"]},
+    "links": {
+        "leads": ["family", "one", "other"],
+        "join": ["family", "one", "other"],
+        "links": ["family"],
+        "link_word": ["family", "one", "other"],
+        "double_word": ["family", "one"],
+    },
+    "kinds": {
+        "kind": ["family"],
+        "paper": ["family"],
+        "check": ["family", "thing"],
+        "no_higher": ["one", "other"],
+    },
+    "lists": {"all_products": ["family"], "sizes_of": ["family"]},
 }
 METHODS = {
     ("families", "Family"): {

@@ -1,0 +1,91 @@
+"""Tests of what holds for all calls of links.py, kinds.py and lists.py: points [0] to [4]."""
+
+import unittest
+
+from drawn import by_hand, drawn
+from growthkinds.errors import BadKind, BadNumber, BadPaper, GrowthError, Grows, TooMany
+from growthkinds.families import Family
+from growthkinds.kinds import check, kind, no_higher, paper
+from growthkinds.links import double_word, join, leads, link_word, links
+from growthkinds.lists import all_products, sizes_of
+
+NAMED = (BadKind, BadNumber, BadPaper, Grows, TooMany)
+NIL_PAPER = ("nil", (3, 2, 1, 0))
+
+
+def calls(tables):
+    """List calls for a family: the function, and its arguments by their names."""
+    last = len(tables[0]) - 1
+    many = [(call, {"family": Family(tables)}) for call in (links, kind, paper, all_products, sizes_of)]
+    for call in (leads, join, link_word):
+        for one, other in ((0, last), (last, 0), (0, 0), (last, last + 1), (-1, True), (0, None)):
+            many.append((call, {"family": Family(tables), "one": one, "other": other}))
+    many += [(double_word, {"family": Family(tables), "one": one}) for one in (0, last, last + 1, "0")]
+    for thing in (paper(Family(tables)), NIL_PAPER, ("factor", 0, (0, 0)), ("power", 0, (), ()), None):
+        many.append((check, {"family": Family(tables), "thing": thing}))
+    for one, other in ((("nil",), ("power", 2)), (("factor",), kind(Family(tables))), ("nil", ["power", 1])):
+        many.append((no_higher, {"one": one, "other": other}))
+    return many
+
+
+def told(call, named, by_position=False, turned=False):
+    """Make a call, and give what it returned, or what it raised with its field."""
+    names = list(named)[::-1] if turned else list(named)
+    try:
+        if by_position:
+            return ("returned", call(*named.values()))
+        return ("returned", call(**{name: named[name] for name in names}))
+    except NAMED as error:
+        return ("raised", type(error), vars(error))
+
+
+class CallsTest(unittest.TestCase):
+
+    def families(self):
+        return [tables for tables, _ in by_hand()] + drawn(51, 60)
+
+    def test_by_names_in_another_order(self):
+        for tables in self.families():
+            for call, named in calls(tables):
+                with self.subTest(tables=tables, call=call.__name__, named=str(named)[:200]):
+                    wanted = told(call, named, by_position=True)
+                    self.assertEqual(told(call, named), wanted)
+                    self.assertEqual(told(call, named, turned=True), wanted)
+
+    def test_equal_calls_with_others_in_between(self):
+        many = [(call, named) for tables in self.families() for call, named in calls(tables)]
+        first = [told(call, named) for call, named in many]
+        second = [told(call, named) for call, named in many[::-1]][::-1]
+        self.assertEqual(first, second)
+        again = [(call, named) for tables in self.families() for call, named in calls(tables)]
+        self.assertEqual([told(call, named) for call, named in again], first)
+
+    def test_families_stay_as_they_were(self):
+        for tables in self.families():
+            for call, named in calls(tables):
+                told(call, named)
+                if "family" in named:
+                    family = named["family"]
+                    self.assertEqual((family.tables, family.many, len(family)), (tables, len(tables[0]), len(tables)))
+                    self.assertEqual(set(vars(family)), {"tables", "many"})
+
+    def test_families_of_lists(self):
+        for tables in self.families():
+            given = list(tables)
+            family = Family(given)
+            given.clear()
+            self.assertEqual(paper(family), paper(Family(tables)))
+            self.assertEqual(links(family), links(Family(tables)))
+
+    def test_whether_is_told_by_true_or_false(self):
+        for tables in self.families():
+            family = Family(tables)
+            for one in range(family.many):
+                for other in range(family.many):
+                    self.assertIs(type(leads(family, one, other)), bool)
+        self.assertIs(type(no_higher(("nil",), ("factor",))), bool)
+        self.assertIs(type(no_higher(("factor",), ("nil",))), bool)
+
+    def test_refusals_stand_under_growth_error(self):
+        for error in (BadKind, BadNumber, BadPaper):
+            self.assertTrue(issubclass(error, GrowthError))
