@@ -28,7 +28,7 @@ def partings(row):
 
 
 def parting_steps(table, spots):
-    """List the ends of steps as told above, where a single walk may also become two."""
+    """List where walks can stand after a step, where a single walk may also go on as two unlike ones."""
     ends = steps(table, spots)
     if len(spots) == 1:
         ends = ends + partings(table[spots[0]])
