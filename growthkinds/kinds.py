@@ -4,6 +4,7 @@ from growthkinds.errors import BadKind, BadPaper
 from growthkinds.families import is_below, is_integer
 from growthkinds.papers import kind_of, paper_of
 from growthkinds.products import is_word, product
+from growthkinds.tuples import begins_with_text
 from growthkinds.walks import all_steps
 
 # How many things a paper consists of, and its first word.
@@ -39,12 +40,6 @@ def wrong_part(family, thing):
     if thing[0] == "factor":
         return wrong_in_factor(family, thing[1], thing[2])
     return wrong_in_power(family, thing[1], thing[2], thing[3])
-
-
-def begins_with_text(thing):
-    """Tell whether any value is a tuple with a string first."""
-    # Only of a string it is sure that being equal to a word means to be that word.
-    return isinstance(thing, tuple) and len(thing) > 0 and isinstance(thing[0], str)
 
 
 def are_heights(family, thing):

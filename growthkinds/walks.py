@@ -35,8 +35,11 @@ def parting_steps(table, spots):
     return ends
 
 
-def shortest_word(tables, start, goal, stepping):
-    """Find a shortest word by which walks go from some spots to others, or None; stepping lists their next spots."""
+def shortest_words(tables, start, stepping, goal=None):
+    """Map all spots to which walks go from some spots, at least until a goal is reached, to shortest words for it.
+
+    Stepping lists the next spots of walks. Of several shortest words each one is the first, as tuples are ordered.
+    """
     words = {start: ()}
     layer = [start]
     while layer and goal not in words:
@@ -48,7 +51,12 @@ def shortest_word(tables, start, goal, stepping):
                         words[end] = words[spots] + (number,)
                         later.append(end)
         layer = later
-    return words.get(goal)
+    return words
+
+
+def shortest_word(tables, start, goal, stepping):
+    """Find the first shortest word by which walks go from some spots to others, or None."""
+    return shortest_words(tables, start, stepping, goal).get(goal)
 
 
 def joining_word(tables, one, other):

@@ -28,6 +28,20 @@ def words_of(tables, long):
     return list(tuples_of(range(len(tables)), repeat=long))
 
 
+def products_of(tables, long):
+    """Map all words of just so many numbers, in their order, to their products."""
+    found = {(): multiplied(tables, ())}
+    for _ in range(long):
+        found = {word + (number,): times(result, table)
+                 for word, result in found.items() for number, table in enumerate(tables)}
+    return found
+
+
+def sizes_of(tables, long):
+    """Map all words of just so many numbers, in their order, to the sizes of their products."""
+    return {word: total(result) for word, result in products_of(tables, long).items()}
+
+
 def greatest(tables, long):
     """Find the greatest size of a product of a word of so many numbers."""
     return max(total(multiplied(tables, word)) for word in words_of(tables, long))

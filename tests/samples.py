@@ -70,6 +70,44 @@ def no_tables():
     return many + [FIVE, ((1,) * 6,) * 6, ((0,) * 30,) * 30]
 
 
+def spots(thing, place=()):
+    """List where the parts of nested tuples stand, the whole thing first."""
+    found = [place]
+    if type(thing) is tuple:
+        for at, part in enumerate(thing[:8]):
+            found += spots(part, place + (at,))
+    return found
+
+
+def part_at(thing, place):
+    """Give the part at a spot."""
+    for at in place:
+        thing = thing[at]
+    return thing
+
+
+def put(thing, place, part):
+    """Give nested tuples with another part at a spot."""
+    if not place:
+        return part
+    at = place[0]
+    return thing[:at] + (put(thing[at], place[1:], part),) + thing[at + 1:]
+
+
+def near_misses(part):
+    """List what is close to a part of nested tuples, but may not stand instead of it."""
+    many = []
+    if type(part) is int:
+        many += [part - 1, part + 1, -part, str(part), (part,), [part]]
+    if type(part) is str:
+        many += [part.upper(), part + " ", part[:-1], part.encode(), [part], (part,)]
+    if type(part) is tuple:
+        many += [list(part), part[::-1], part + part, part + (0,), part + ((),), ((),) + part, part[:-1], part[1:]]
+        many += [(part,), str(part), dict(enumerate(part)), iter(part), part + (None,), (True,) + part[1:]]
+        many += [part[:1] * len(part), part[:1] + part, part + part[-1:]]
+    return many
+
+
 class RefusalCase(unittest.TestCase):
     """A test case that looks closely at what a call refuses."""
 

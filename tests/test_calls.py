@@ -1,20 +1,29 @@
-"""Tests of what holds for all calls of links.py, kinds.py and lists.py: points [0] to [4]."""
+"""Tests of what holds for all calls of functions over families: points [0] to [4]."""
 
 import unittest
 
 from drawn import by_hand, drawn
-from growthkinds.errors import BadKind, BadNumber, BadPaper, GrowthError, Grows, TooMany
+from growthkinds.errors import BadKind, BadNumber, BadPairs, BadPaper, BadWord, GrowthError, Grows, TooMany
 from growthkinds.families import Family
 from growthkinds.kinds import check, kind, no_higher, paper
 from growthkinds.links import double_word, join, leads, link_word, links
 from growthkinds.lists import all_products, sizes_of
+from growthkinds.noughts import is_closed, is_nought_paper, lots_made, made, nought_paper, nought_word
+from growthkinds.orders import all_pairs, goes_by, kind_by, longest_by
+from growthkinds.products import is_word, product, size
+from growthkinds.sizes import average, greatest, least
 
-NAMED = (BadKind, BadNumber, BadPaper, Grows, TooMany)
+NAMED = (BadKind, BadNumber, BadPairs, BadPaper, BadWord, Grows, TooMany)
 NIL_PAPER = ("nil", (3, 2, 1, 0))
 
 
 def calls(tables):
     """List calls for a family: the function, and its arguments by their names."""
+    return calls_on_growth(tables) + calls_on_words(tables)
+
+
+def calls_on_growth(tables):
+    """List calls of links.py, kinds.py and lists.py."""
     last = len(tables[0]) - 1
     many = [(call, {"family": Family(tables)}) for call in (links, kind, paper, all_products, sizes_of)]
     for call in (leads, join, link_word):
@@ -25,6 +34,25 @@ def calls(tables):
         many.append((check, {"family": Family(tables), "thing": thing}))
     for one, other in ((("nil",), ("power", 2)), (("factor",), kind(Family(tables))), ("nil", ["power", 1])):
         many.append((no_higher, {"one": one, "other": other}))
+    return many
+
+
+def calls_on_words(tables):
+    """List calls of products.py, noughts.py, sizes.py and orders.py."""
+    last = len(tables) - 1
+    many = [(call, {"family": Family(tables)}) for call in (nought_word, lots_made, nought_paper, all_pairs)]
+    for word in ((), (0, last, 0), (last + 1,), [0], (0,) * 401):
+        many += [(call, {"family": Family(tables), "word": word}) for call in (product, size)]
+        many.append((is_word, {"family": Family(tables), "thing": word}))
+        many += [(goes_by, {"family": Family(tables), "pairs": pairs, "word": word}) for pairs in ((), ((0, last),), ((9, 9),))]
+    for number, lot in ((0, ()), (last, (0,)), (last + 1, (0, 0)), (0, (0, 0)), (0, [0]), (True, None)):
+        many.append((made, {"family": Family(tables), "number": number, "lot": lot}))
+    for thing in (nought_paper(Family(tables)), lots_made(Family(tables)), ((0,), (0, 1)), ("word", (0, 0)), None):
+        many += [(call, {"family": Family(tables), "thing": thing}) for call in (is_closed, is_nought_paper)]
+    for length in (0, 1, 2, 3, 7, -1, True, "2"):
+        many += [(call, {"family": Family(tables), "length": length}) for call in (greatest, least, average)]
+    for pairs in ((), ((last, 0),), all_pairs(Family(tables)), ((0, 0), (0, 0)), [(0, 0)]):
+        many += [(call, {"family": Family(tables), "pairs": pairs}) for call in (kind_by, longest_by)]
     return many
 
 
@@ -83,9 +111,15 @@ class CallsTest(unittest.TestCase):
             for one in range(family.many):
                 for other in range(family.many):
                     self.assertIs(type(leads(family, one, other)), bool)
+            for thing in (nought_paper(family), lots_made(family), (), 0):
+                self.assertIs(type(is_closed(family, thing)), bool)
+                self.assertIs(type(is_nought_paper(family, thing)), bool)
+                self.assertIs(type(is_word(family, thing)), bool)
+            self.assertIs(type(goes_by(family, (), (0, 0))), bool)
+            self.assertIs(type(goes_by(family, all_pairs(family), (0, 0))), bool)
         self.assertIs(type(no_higher(("nil",), ("factor",))), bool)
         self.assertIs(type(no_higher(("factor",), ("nil",))), bool)
 
     def test_refusals_stand_under_growth_error(self):
-        for error in (BadKind, BadNumber, BadPaper):
+        for error in (BadKind, BadNumber, BadPairs, BadPaper, BadWord):
             self.assertTrue(issubclass(error, GrowthError))

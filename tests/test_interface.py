@@ -37,6 +37,21 @@ LISTED = {
         "no_higher": ["one", "other"],
     },
     "lists": {"all_products": ["family"], "sizes_of": ["family"]},
+    "noughts": {
+        "made": ["family", "number", "lot"],
+        "nought_word": ["family"],
+        "lots_made": ["family"],
+        "nought_paper": ["family"],
+        "is_closed": ["family", "thing"],
+        "is_nought_paper": ["family", "thing"],
+    },
+    "sizes": {"greatest": ["family", "length"], "least": ["family", "length"], "average": ["family", "length"]},
+    "orders": {
+        "goes_by": ["family", "pairs", "word"],
+        "kind_by": ["family", "pairs"],
+        "longest_by": ["family", "pairs"],
+        "all_pairs": ["family"],
+    },
 }
 METHODS = {
     ("families", "Family"): {

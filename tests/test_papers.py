@@ -10,7 +10,9 @@ from drawn import FACTOR, LEVEL, NIL, POWERS, by_hand, drawn
 from growthkinds.errors import BadPaper, GrowthError
 from growthkinds.families import Family
 from growthkinds.kinds import check, kind, paper
-from samples import DOWN, ROUND, SIDE, UP, Odd, RefusalCase, nested, no_integers, no_numbers, strange
+from samples import (
+    DOWN, ROUND, SIDE, UP, Odd, RefusalCase, near_misses, nested, no_integers, no_numbers, part_at, put, spots, strange,
+)
 
 SIDE_LINK = (0, 1, (0,))
 STAIRS = ((1, 1, 0), (0, 1, 1), (0, 0, 1))
@@ -43,43 +45,12 @@ def good_papers():
     return many
 
 
-def spots(thing, place=()):
-    """List where the parts of nested tuples stand, the whole thing first."""
-    found = [place]
-    if type(thing) is tuple:
-        for at, part in enumerate(thing[:6]):
-            found += spots(part, place + (at,))
-    return found
-
-
-def part_at(thing, place):
-    """Give the part at a spot."""
-    for at in place:
-        thing = thing[at]
-    return thing
-
-
-def put(thing, place, part):
-    """Give nested tuples with another part at a spot."""
-    if not place:
-        return part
-    at = place[0]
-    return thing[:at] + (put(thing[at], place[1:], part),) + thing[at + 1:]
-
-
 def others(part):
     """List what may stand instead of a part: near misses, and things of other types."""
     many = [None, True, False, "", "nil", b"nil", (), (0,), (0, 0), [], [0], {}, {0: 0}, {0}, object(), Odd(), mock.ANY, int]
     many += [-1, 0, 1, 2, 3, 4, 10 ** 999, "factor", "power", "kind", (0,) * 401, (0,) * 400, nested(30), Family([SIDE])]
     many += [("power", 0, (), ()), ("nil", (1, 0)), ("factor", 0, (0, 1))]
-    if type(part) is int:
-        many += [part - 1, part + 1, -part, str(part), (part,), [part]]
-    if type(part) is str:
-        many += [part.upper(), part + " ", part[:-1], part.encode(), [part], (part,)]
-    if type(part) is tuple:
-        many += [list(part), part[::-1], part + part, part + (0,), part + ((),), part[:-1], part[1:], (part,), str(part)]
-        many += [dict(enumerate(part)), iter(part), part + (None,), (True,) + part[1:], part[:1] * len(part)]
-    return many
+    return many + near_misses(part)
 
 
 class CheckCase(RefusalCase):
