@@ -1,5 +1,6 @@
 """Tables, wrong values of many kinds, and a check that several tests share."""
 
+import operator
 import unittest
 from unittest import mock
 
@@ -68,6 +69,15 @@ def no_tables():
     many += [{(1,): 1}, {(1,)}, frozenset([(1,)]), iter([(1,)]), (SIDE,), (SIDE, SIDE)]
     # More than four places.
     return many + [FIVE, ((1,) * 6,) * 6, ((0,) * 30,) * 30]
+
+
+def operators():
+    """List the operators between two values, except == and !=."""
+    return [
+        operator.add, operator.sub, operator.mul, operator.truediv, operator.floordiv, operator.mod, operator.pow,
+        operator.matmul, operator.and_, operator.or_, operator.xor, operator.lshift, operator.rshift, divmod,
+        operator.iadd, operator.imul, operator.ior, operator.lt, operator.le, operator.gt, operator.ge,
+    ]
 
 
 def spots(thing, place=()):

@@ -3,7 +3,10 @@
 import unittest
 
 from drawn import by_hand, drawn
-from growthkinds.errors import BadKind, BadNumber, BadPairs, BadPaper, BadWord, GrowthError, Grows, TooMany
+from growthkinds.bench import Bench, tried
+from growthkinds.errors import (
+    BadKind, BadNumber, BadPairs, BadPaper, BadTables, BadText, BadWord, GrowthError, Grows, TooMany,
+)
 from growthkinds.families import Family
 from growthkinds.kinds import check, kind, no_higher, paper
 from growthkinds.links import double_word, join, leads, link_word, links
@@ -11,15 +14,18 @@ from growthkinds.lists import all_products, sizes_of
 from growthkinds.noughts import is_closed, is_nought_paper, lots_made, made, nought_paper, nought_word
 from growthkinds.orders import all_pairs, goes_by, kind_by, longest_by
 from growthkinds.products import is_word, product, size
+from growthkinds.second import kind_too
 from growthkinds.sizes import average, greatest, least
+from growthkinds.strikes import binding, fewest, struck
+from growthkinds.texts import family_text, read_family, word_text
 
-NAMED = (BadKind, BadNumber, BadPairs, BadPaper, BadWord, Grows, TooMany)
+NAMED = (BadKind, BadNumber, BadPairs, BadPaper, BadTables, BadText, BadWord, Grows, TooMany)
 NIL_PAPER = ("nil", (3, 2, 1, 0))
 
 
 def calls(tables):
     """List calls for a family: the function, and its arguments by their names."""
-    return calls_on_growth(tables) + calls_on_words(tables)
+    return calls_on_growth(tables) + calls_on_words(tables) + calls_on_deeds(tables)
 
 
 def calls_on_growth(tables):
@@ -56,6 +62,41 @@ def calls_on_words(tables):
     return many
 
 
+def calls_on_deeds(tables):
+    """List calls of families.py, strikes.py, second.py, texts.py and bench.py, the last three by the deeds they do."""
+    last = len(tables) - 1
+    many = [(call, {"family": Family(tables)}) for call in (kind_too, family_text, binding)]
+    for cells in ((), ((0, 0, 0),), ((last, 0, 0), (last + 1, 0, 0)), [(0, 0, 0)], ((0, 0, 0), (0, 0, 0))):
+        many.append((struck, {"family": Family(tables), "cells": cells}))
+    if sum(entry > 0 for table in tables for row in table for entry in row) < 13:
+        many += [(fewest, {"family": Family(tables), "kind": told}) for told in (("nil",), ("power", 0), ("factor",))]
+    many.append((fewest, {"family": Family(tables), "kind": ("power", True)}))
+    many += [(read_family, {"text": text}) for text in (family_text(Family(tables)), family_text(Family(tables))[1:], None)]
+    for word in ((), (0, last), (last + 1,), [0], None):
+        many.append((word_text, {"family": Family(tables), "word": word}))
+    for thing in (tables, list(tables), tables * 4, None):
+        many += [(call, {"tables": thing}) for call in (Family, lambda tables: Bench(family=Family(tables)))]
+    many += [(call, {"table": table}) for call in (Family(tables).with_table, led(tables, "table")) for table in (tables[0], 0)]
+    many += [(call, {"number": number}) for call in (Family(tables).without_table, led(tables, "drop")) for number in (0, 9)]
+    for number, row, place, entry in ((last, 0, 0, 9), (0, 0, 0, 0), (last + 1, -1, 9, 10), (0, 0, 9, 10), (0, 0, 0, "1")):
+        for call in (Family(tables).changed, led(tables, "entry")):
+            many.append((call, {"number": number, "row": row, "place": place, "entry": entry}))
+    return many + [(led(tables, "undo"), {"many": many}) for many in (1, 2, 3, True)] + [(led(tables, "undo"), {})]
+
+
+def led(tables, name):
+    """Give a function that does a deed in a trial on a bench, and tells what the bench is then."""
+    bench = Bench(Family(tables))
+    bench.entry(entry=1, place=0, row=0, number=0)
+    bench.entry(0, 0, 0, tables[0][0][0])
+
+    def lead(*args, **named):
+        getattr(bench, name)(*args, **named)
+        return bench.family, len(bench), bench.kind()
+
+    return lambda *args, **named: tried(function=lambda _: lead(*args, **named), bench=bench)
+
+
 def told(call, named, by_position=False, turned=False):
     """Make a call, and give what it returned, or what it raised with its field."""
     names = list(named)[::-1] if turned else list(named)
@@ -75,7 +116,7 @@ class CallsTest(unittest.TestCase):
     def test_by_names_in_another_order(self):
         for tables in self.families():
             for call, named in calls(tables):
-                with self.subTest(tables=tables, call=call.__name__, named=str(named)[:200]):
+                with self.subTest(tables=tables, call=str(call), named=str(named)[:200]):
                     wanted = told(call, named, by_position=True)
                     self.assertEqual(told(call, named), wanted)
                     self.assertEqual(told(call, named, turned=True), wanted)
@@ -121,5 +162,5 @@ class CallsTest(unittest.TestCase):
         self.assertIs(type(no_higher(("factor",), ("nil",))), bool)
 
     def test_refusals_stand_under_growth_error(self):
-        for error in (BadKind, BadNumber, BadPairs, BadPaper, BadWord):
+        for error in (BadKind, BadNumber, BadPairs, BadPaper, BadTables, BadText, BadWord):
             self.assertTrue(issubclass(error, GrowthError))

@@ -7,15 +7,9 @@ from unittest import mock
 from growthkinds.errors import BadNumber, BadTables, GrowthError
 from growthkinds.families import Family
 from samples import (
-    DOWN, FIVE, FOUR, PLAIN, ROUND, SIDE, TURN, UP, Odd, RefusalCase, no_integers, no_numbers, no_tables, strange,
+    DOWN, FIVE, FOUR, PLAIN, ROUND, SIDE, TURN, UP, Odd, RefusalCase, no_integers, no_numbers, no_tables, operators,
+    strange,
 )
-
-OPERATORS = [
-    operator.add, operator.sub, operator.mul, operator.truediv, operator.floordiv, operator.mod, operator.pow,
-    operator.matmul, operator.and_, operator.or_, operator.xor, operator.lshift, operator.rshift, divmod,
-    operator.iadd, operator.imul, operator.ior, operator.lt, operator.le, operator.gt, operator.ge,
-]
-
 
 class MakingTest(RefusalCase):
 
@@ -150,7 +144,7 @@ class OperatorTest(unittest.TestCase):
     def test_operators_raise_type_error(self):
         family = Family([UP, DOWN])
         for other in (Family([UP, DOWN]), family, None, 1, 0, True, "a", "", b"a", (), (UP,), [], [UP], {}, {1}, object()):
-            for act in OPERATORS:
+            for act in operators():
                 with self.subTest(act=act.__name__, other=type(other).__name__):
                     with self.assertRaises(TypeError):
                         act(family, other)

@@ -52,6 +52,10 @@ LISTED = {
         "longest_by": ["family", "pairs"],
         "all_pairs": ["family"],
     },
+    "strikes": {"struck": ["family", "cells"], "fewest": ["family", "kind"], "binding": ["family"]},
+    "second": {"kind_too": ["family"]},
+    "bench": {"Bench": ["family"], "tried": ["bench", "function"]},
+    "texts": {"family_text": ["family"], "read_family": ["text"], "word_text": ["family", "word"]},
 }
 METHODS = {
     ("families", "Family"): {
@@ -60,6 +64,16 @@ METHODS = {
         "with_table": ["table"],
         "without_table": ["number"],
         "changed": ["number", "row", "place", "entry"],
+    },
+    ("bench", "Bench"): {
+        "__len__": [],
+        "__eq__": ["other"],
+        "kind": [],
+        "table": ["table"],
+        "drop": ["number"],
+        "entry": ["number", "row", "place", "entry"],
+        "undo": ["many"],
+        "trial": [],
     },
 }
 
@@ -102,3 +116,16 @@ class InterfaceTest(unittest.TestCase):
                 with self.subTest(name=name, method=method):
                     function = vars(getattr(module, name))[method]
                     self.assertEqual(list(inspect.signature(function).parameters)[1:], wanted)
+
+    def test_default_values_of_methods(self):
+        for (file, name), methods in METHODS.items():
+            module = importlib.import_module(f"growthkinds.{file}")
+            for method in methods:
+                for parameter in inspect.signature(vars(getattr(module, name))[method]).parameters.values():
+                    with self.subTest(name=name, method=method, parameter=parameter.name):
+                        wanted = 1 if (method, parameter.name) == ("undo", "many") else inspect.Parameter.empty
+                        self.assertEqual(parameter.default, wanted)
+                        self.assertIs(parameter.kind, inspect.Parameter.POSITIONAL_OR_KEYWORD)
+
+    def test_the_property_stands_in_the_class_itself(self):
+        self.assertIsInstance(vars(importlib.import_module("growthkinds.bench").Bench)["family"], property)
