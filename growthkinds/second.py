@@ -51,7 +51,7 @@ def rows_made(tables, starts, most):
 
 def doubles(tables, place):
     """Tell whether some product of a word that is not () has 2 or more at (place, place)."""
-    return any([row[place] > 1 for (row,) in rows_made(tables, (place,), 2)])
+    return any([rows[0][place] > 1 for rows in rows_made(tables, (place,), 2)])
 
 
 def is_link(tables, one, other):
