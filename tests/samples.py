@@ -118,6 +118,27 @@ def near_misses(part):
     return many
 
 
+def several_otherwise(draw, thing, others):
+    """Put other parts in the place of two to four parts of nested tuples; others lists what may stand for a part."""
+    for _ in range(draw.randrange(2, 5)):
+        place = draw.choice(spots(thing)[1:] or [()])
+        thing = put(thing, place, draw.choice(others(part_at(thing, place))))
+        if type(thing) is not tuple:
+            break
+    return thing
+
+
+class AlikeCase(unittest.TestCase):
+    """A test case that looks at what is equal."""
+
+    def alike(self, one, other, whether):
+        """Check == and != in both orders."""
+        self.assertIs(one == other, whether)
+        self.assertIs(other == one, whether)
+        self.assertIs(one != other, not whether)
+        self.assertIs(other != one, not whether)
+
+
 class RefusalCase(unittest.TestCase):
     """A test case that looks closely at what a call refuses."""
 

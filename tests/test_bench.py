@@ -2,7 +2,6 @@
 
 import operator
 import random
-import unittest
 from unittest import mock
 
 import reckoning
@@ -11,7 +10,7 @@ from growthkinds.bench import Bench, tried
 from growthkinds.errors import BadNumber, BadTables, GrowthError
 from growthkinds.families import Family
 from samples import (
-    DOWN, FIVE, FOUR, ROUND, SIDE, TURN, UP, Odd, RefusalCase, no_numbers, no_tables, operators,
+    DOWN, FIVE, FOUR, ROUND, SIDE, TURN, UP, AlikeCase, Odd, RefusalCase, no_numbers, no_tables, operators,
 )
 
 
@@ -238,14 +237,7 @@ class UndoTest(BenchCase):
         self.stands(bench, [(SIDE,)] + [(((entry, 3), (0, 1)),) for entry in range(3)])
 
 
-class EqualTest(BenchCase):
-
-    def alike(self, one, other, whether):
-        """Check == and != in both orders."""
-        self.assertIs(one == other, whether)
-        self.assertIs(other == one, whether)
-        self.assertIs(one != other, not whether)
-        self.assertIs(other != one, not whether)
+class EqualTest(AlikeCase):
 
     def test_equal_families(self):
         one, other = Bench(Family([UP, DOWN])), Bench(Family((UP, DOWN)))

@@ -7,9 +7,10 @@ from unittest import mock
 from growthkinds.errors import BadNumber, BadTables, GrowthError
 from growthkinds.families import Family
 from samples import (
-    DOWN, FIVE, FOUR, PLAIN, ROUND, SIDE, TURN, UP, Odd, RefusalCase, no_integers, no_numbers, no_tables, operators,
-    strange,
+    DOWN, FIVE, FOUR, PLAIN, ROUND, SIDE, TURN, UP, AlikeCase, Odd, RefusalCase, no_integers, no_numbers, no_tables,
+    operators, strange,
 )
+
 
 class MakingTest(RefusalCase):
 
@@ -102,14 +103,7 @@ class MakingTest(RefusalCase):
         self.assertEqual(tables, [SIDE, [[1]], 5])
 
 
-class EqualTest(unittest.TestCase):
-
-    def alike(self, one, other, whether):
-        """Check == and != in both orders."""
-        self.assertIs(one == other, whether)
-        self.assertIs(other == one, whether)
-        self.assertIs(one != other, not whether)
-        self.assertIs(other != one, not whether)
+class EqualTest(AlikeCase):
 
     def test_the_same_tables_in_the_same_order(self):
         self.alike(Family([UP, DOWN]), Family((UP, DOWN)), True)

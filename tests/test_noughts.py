@@ -13,7 +13,8 @@ from growthkinds.families import Family
 from growthkinds.noughts import is_closed, is_nought_paper, lots_made, made, nought_paper, nought_word
 from growthkinds.products import product
 from samples import (
-    DOWN, ROUND, SIDE, UP, Odd, RefusalCase, near_misses, nested, no_integers, no_numbers, part_at, put, spots, strange,
+    DOWN, ROUND, SIDE, UP, Odd, RefusalCase, near_misses, nested, no_integers, no_numbers, part_at, put,
+    several_otherwise, spots, strange,
 )
 
 # No word of fewer numbers than that has a product of 0 everywhere.
@@ -351,11 +352,7 @@ class PaperTest(unittest.TestCase):
         papers = good_papers()
         for count in range(3000):
             tables, thing = draw.choice(papers)
-            for _ in range(draw.randrange(2, 5)):
-                place = draw.choice(spots(thing)[1:] or [()])
-                thing = put(thing, place, draw.choice(others(part_at(thing, place))))
-                if type(thing) is not tuple:
-                    break
+            thing = several_otherwise(draw, thing, others)
             with self.subTest(count=count, tables=tables):
                 self.judged(tables, thing)
 

@@ -11,7 +11,8 @@ from growthkinds.errors import BadPaper, GrowthError
 from growthkinds.families import Family
 from growthkinds.kinds import check, kind, paper
 from samples import (
-    DOWN, ROUND, SIDE, UP, Odd, RefusalCase, near_misses, nested, no_integers, no_numbers, part_at, put, spots, strange,
+    DOWN, ROUND, SIDE, UP, Odd, RefusalCase, near_misses, nested, no_integers, no_numbers, part_at, put,
+    several_otherwise, spots, strange,
 )
 
 SIDE_LINK = (0, 1, (0,))
@@ -296,11 +297,7 @@ class OtherwiseTest(CheckCase):
         papers = good_papers()
         for count in range(6000):
             tables, thing = draw.choice(papers)
-            for _ in range(draw.randrange(2, 5)):
-                place = draw.choice(spots(thing)[1:] or [()])
-                thing = put(thing, place, draw.choice(others(part_at(thing, place))))
-                if type(thing) is not tuple:
-                    break
+            thing = several_otherwise(draw, thing, others)
             with self.subTest(count=count, tables=tables):
                 seen.add(self.judged(tables, thing))
         self.assertLessEqual({"form", "heights", "place", "word", "number", "links", "joins"}, seen)

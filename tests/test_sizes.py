@@ -1,6 +1,5 @@
 """Tests of the greatest, least and average size at a length: points [11] and [13], and the interface under sizes.py."""
 
-import unittest
 from fractions import Fraction
 
 import reckoning

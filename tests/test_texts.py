@@ -1,7 +1,6 @@
 """Tests of families and words as texts: points [2], [10] and [11], and the interface under texts.py."""
 
 import random
-import unittest
 
 import reckoning
 from drawn import by_hand, drawn
