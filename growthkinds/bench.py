@@ -2,7 +2,8 @@
 
 from growthkinds.errors import BadNumber
 from growthkinds.families import is_integer
-from growthkinds.papers import kind_of
+from growthkinds.growth import kind_of
+from growthkinds.webs import web_of
 
 # Where in what a bench holds its earlier families stand, one for each deed, and where its family stands.
 EARLIER = 0
@@ -50,7 +51,7 @@ class Bench:
 
     def kind(self):
         """Give the kind now."""
-        return kind_of(self.family.tables)
+        return kind_of(web_of(self.family.tables))
 
     def table(self, table):
         """Add a further table."""

@@ -2,10 +2,11 @@
 
 from growthkinds.errors import BadKind, BadPaper
 from growthkinds.families import is_below, is_integer
-from growthkinds.papers import kind_of, paper_of
+from growthkinds.growth import kind_of
+from growthkinds.papers import paper_of
 from growthkinds.products import is_word, product
 from growthkinds.tuples import begins_with_text
-from growthkinds.walks import all_steps
+from growthkinds.webs import places_in, web_of
 
 # How many things a paper consists of, and its first word.
 FORMS = ((2, "nil"), (3, "factor"), (4, "power"))
@@ -15,7 +16,7 @@ ORDER = ("nil", "power", "factor")
 
 def kind(family):
     """Give the kind of a family."""
-    return kind_of(family.tables)
+    return kind_of(web_of(family.tables))
 
 
 def paper(family):
@@ -46,7 +47,9 @@ def are_heights(family, thing):
     """Tell whether any value is an integer for each place, so that each step goes to a lesser one."""
     if not isinstance(thing, tuple) or len(thing) != family.many or not all([is_integer(one) for one in thing]):
         return False
-    return all([thing[i] > thing[j] for i, j in all_steps(family.tables)])
+    # If each step goes to a lesser one, so do all steps in a row.
+    onward = web_of(family.tables).onward
+    return all([thing[i] > thing[j] for i in range(family.many) for j in places_in(onward[i])])
 
 
 def wrong_in_factor(family, place, word):

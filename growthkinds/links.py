@@ -2,7 +2,9 @@
 
 from growthkinds.errors import BadNumber
 from growthkinds.families import is_below
-from growthkinds.walks import doubling_word, joining_word, linking_word, linking_words
+from growthkinds.growth import all_links
+from growthkinds.walks import doubling_word, joining_word, linking_word
+from growthkinds.webs import web_of
 
 
 def refuse_no_place(family, things):
@@ -25,16 +27,16 @@ def join(family, one, other):
 
 def links(family):
     """Give the ascending tuple of all links."""
-    return tuple(list(linking_words(family.tables)))
+    return tuple(all_links(web_of(family.tables)))
 
 
 def link_word(family, one, other):
     """Give a shortest word that shows that (one, other) is a link, or None if it is none."""
     refuse_no_place(family, (one, other))
-    return linking_word(family.tables, one, other)
+    return linking_word(web_of(family.tables), one, other)
 
 
 def double_word(family, one):
     """Give a shortest word, not (), whose product has 2 or more at (one, one), or None."""
     refuse_no_place(family, (one,))
-    return doubling_word(family.tables, one)
+    return doubling_word(web_of(family.tables), one)

@@ -1,9 +1,10 @@
 """Words in which only some tables may stand behind others, and how their products grow."""
 
 from growthkinds.errors import BadPairs, BadWord
-from growthkinds.papers import heights_of, kind_of
+from growthkinds.growth import kind_of
 from growthkinds.products import is_word
 from growthkinds.tuples import are_ascending_spots
+from growthkinds.webs import Web, heights_of, row_mask, web_of
 
 
 def refuse_no_pairs(family, thing):
@@ -23,22 +24,20 @@ def goes_by(family, pairs, word):
 def kind_by(family, pairs):
     """Give the kind of the products of words that go by the pairs."""
     refuse_no_pairs(family, pairs)
-    return kind_of([table_by(family, pairs, number) for number in range(len(family))])
+    return kind_of(Web([rows_by(family, pairs, number) for number in range(len(family))]))
 
 
-def table_by(family, pairs, number):
-    """Make of a table the one over pairs of a place and the number of the table ahead."""
-    spots = [(place, ahead) for place in range(family.many) for ahead in range(len(family))]
-    table = family.tables[number]
-    return [[table[i][j] if ahead == number and (last, number) in pairs else 0 for j, ahead in spots]
-            for i, last in spots]
+def rows_by(family, pairs, number):
+    """Give the masks of the rows of a table over pairs of the number of the table ahead and a place, in their order."""
+    rows = [row_mask(row) << number * family.many for row in family.tables[number]]
+    return [row if (ahead, number) in pairs else 0 for ahead in range(len(family)) for row in rows]
 
 
 def longest_by(family, pairs):
     """Give the greatest number of numbers of a word that goes by the pairs, or None if there is no greatest one."""
     refuse_no_pairs(family, pairs)
     numbers = range(len(family))
-    heights = heights_of([[[int((one, other) in pairs) for other in numbers] for one in numbers]])
+    heights = heights_of(web_of([[[int((one, other) in pairs) for other in numbers] for one in numbers]]))
     # A word of one number goes by any pairs, and each step along a pair adds a number.
     return None if heights is None else 1 + max(heights)
 
